@@ -1,0 +1,61 @@
+"""The sessions of the interface, as they stand in the document."""
+
+import unittest
+
+from tests.support import session_steps
+from trialground import errors
+
+TRIALS = """
+>>> from trialground.trials import answer, is_question, is_trial, is_world, levels_of, plots_of, yields
+>>> nil, one, two, half, third = (0, 1), (1, 1), (2, 1), (1, 2), (1, 3)
+>>> scale = (((one, nil), (nil, one), (one, one)), (one, one, one), ())
+>>> beds = (((one,), (nil,), (one,)), (one, two, one), (0, 0, 1))
+>>> [is_trial(scale), is_trial((scale[0], (one, one, nil), ())), is_world(scale, ((one, two), ())), is_world(beds, ((one,), (nil,))), is_question(scale, (one,)), levels_of(scale), levels_of(beds)]
+[True, False, True, False, False, 0, 2]
+>>> [yields(scale, ((one, two), ())), yields(beds, ((two,), (one, half))), answer(scale, (one, (-1, 1)), ((one, two), ())), plots_of(beds, (1, 2))]
+[((1, 1), (2, 1), (3, 1)), ((3, 1), (1, 1), (5, 2)), (-1, 1), ((((0, 1),), ((1, 1),)), ((2, 1), (1, 1)), (0, 1))]
+"""
+
+TELLINGS = """
+>>> from trialground.tellings import is_fair, is_shift, spread_of, told_or_shift
+>>> twice = (((one, one), (one, one)), (one, one), ())
+>>> [is_fair(scale, (one, nil), (one, nil, nil)), is_fair(scale, (one, nil), (nil, (-1, 1), one)), spread_of(scale, (nil, (-1, 1), one)), is_fair(beds, (one,), (one, (-1, 1), nil)), is_fair(beds, (one,), (nil, nil, one))]
+[True, True, (2, 1), True, False]
+>>> [told_or_shift(scale, (one, nil))[0], told_or_shift(twice, (one, nil))[0], is_shift(twice, (one, nil), ((one, (-1, 1)), ())), is_shift(twice, (one, one), ((one, (-1, 1)), ())), spread_of(beds, (one, (-1, 1), nil))]
+['told', 'shift', True, False, (3, 1)]
+"""
+
+BEST = """
+>>> from trialground.best import best_telling, excess, is_load, least_spread, load_of
+>>> [best_telling(scale, (one, nil)), least_spread(scale, (one, nil)), is_load(scale, best_telling(scale, (one, nil)), load_of(scale, (one, nil))), excess(scale, (one, nil), (one, nil, nil))]
+[((2, 3), (-1, 3), (1, 3)), (2, 3), True, (1, 3)]
+>>> [best_telling(beds, (one,)), best_telling(twice, (one, one)), least_spread(twice, (one, one))]
+[((1, 1), (-1, 1), (0, 1)), ((1, 2), (1, 2)), (1, 2)]
+>>> best_telling(twice, (one, nil))
+raises NotTold()
+"""
+
+
+class Examples(unittest.TestCase):
+
+    def test_sessions(self):
+        names = {}
+        for typed, wanted in session_steps(TRIALS + TELLINGS.lstrip("\n") + BEST.lstrip("\n")):
+            with self.subTest(typed=typed):
+                self.run_step(typed, wanted, names)
+
+    def run_step(self, typed, wanted, names):
+        if wanted is None:
+            exec(typed, names)
+        elif wanted.startswith("raises "):
+            error = eval(wanted[len("raises "):], dict(vars(errors)))
+            with self.assertRaises(errors.TrialError) as caught:
+                eval(typed, names)
+            self.assertIs(caught.exception.__class__, error.__class__)
+            self.assertEqual(vars(caught.exception), vars(error))
+        else:
+            self.assertEqual(repr(eval(typed, names)), wanted)
+
+
+if __name__ == "__main__":
+    unittest.main()

@@ -1,0 +1,1 @@
+"""Trials of linear worlds: what they tell, and how well."""
