@@ -2,54 +2,52 @@
 
 from math import lcm
 
-from trialground.ratios import NIL, ONE, fraction
+from trialground.ratios import fraction
 
 
 def solution(rows, sides):
     """Any row whose product with each of the rows is its side, None if there is none."""
     width = len(rows[0])
-    swept, pivots, scale = _swept([[*row, side] for row, side in zip(rows, sides)], width)
-    if any(row[width] != 0 for row in swept[len(pivots):]):
+    steps, pivots = _steps([[*row, side] for row, side in zip(rows, sides)], width)
+    if any(row[width] != 0 for row in steps[len(pivots):]):
         return None
-    found = [NIL] * width
-    for row, column in zip(swept, pivots):
-        found[column] = fraction(row[width], scale)
-    return tuple(found)
+    scale = _last_lead(steps, pivots)
+    found = _filled(steps, pivots, [0] * width + [-scale])
+    return tuple([fraction(part, scale) for part in found[:width]])
 
 
 def null_rows(rows):
-    """Rows whose product with each of the rows is 0: sums of their multiples are all such."""
+    """Rows whose product with each of the rows is 0: all such are sums of their multiples."""
     width = len(rows[0])
-    swept, pivots, scale = _swept(rows, width)
+    steps, pivots = _steps(rows, width)
+    scale = _last_lead(steps, pivots)
     found = []
     for free in range(width):
         if free not in pivots:
-            null = [NIL] * width
-            null[free] = ONE
-            for row, column in zip(swept, pivots):
-                null[column] = fraction(-row[free], scale)
-            found.append(tuple(null))
+            start = [0] * width
+            start[free] = scale
+            found.append(tuple([fraction(part, scale) for part in _filled(steps, pivots, start)]))
     return found
 
 
-def _swept(rows, width):
-    """Sweep the first columns: the rows, the columns that lead one each, and the number that leads.
+def _steps(rows, width):
+    """Bring the first columns of rows into steps of whole numbers; the steps, and where they lead.
 
-    Each leading column is left with this number in its row alone, the rows behind the leading
-    ones with noughts in all swept columns.
+    Each leading column has noughts in the steps behind its own one; the rows behind the last
+    step have noughts in all of the first columns.
     """
-    swept = [_whole_multiple(row) for row in rows]
+    steps = [_whole_multiple(row) for row in rows]
     pivots = []
     scale = 1
     for column in range(width):
         top = len(pivots)
-        at = _first_not_nought(swept, top, column)
+        at = _first_not_nought(steps, top, column)
         if at is not None:
-            swept[top], swept[at] = swept[at], swept[top]
-            _sweep(swept, top, column, scale)
-            scale = swept[top][column]
+            steps[top], steps[at] = steps[at], steps[top]
+            _clear_behind(steps, top, column, scale)
+            scale = steps[top][column]
             pivots.append(column)
-    return swept, pivots, scale
+    return steps, pivots
 
 
 def _whole_multiple(row):
@@ -60,22 +58,40 @@ def _whole_multiple(row):
     return [above * (common // below) for above, below in row]
 
 
-def _first_not_nought(rows, top, column):
+def _first_not_nought(steps, top, column):
     """The index of the first row from the top one on that is not 0 in a column; None."""
-    for at in range(top, len(rows)):
-        if rows[at][column] != 0:
+    for at in range(top, len(steps)):
+        if steps[at][column] != 0:
             return at
     return None
 
 
-def _sweep(rows, top, column, scale):
-    """Clear a column in all rows but the top one."""
-    leader = rows[top]
+def _clear_behind(steps, top, column, scale):
+    """Clear a column in all rows behind the top one."""
+    leader = steps[top]
     lead = leader[column]
-    for at in range(len(rows)):
-        if at != top:
-            row = rows[at]
-            factor = row[column]
-            # Bareiss: the lead of the step before divides all of these without a rest,
-            # so numbers stay as short as determinants of the equations are.
-            rows[at] = [(lead * mine - factor * its) // scale for mine, its in zip(row, leader)]
+    for at in range(top + 1, len(steps)):
+        row = steps[at]
+        factor = row[column]
+        # Bareiss: the lead of the step before divides all of these without a rest,
+        # so numbers stay as short as determinants of the equations are.
+        steps[at] = [(lead * mine - factor * its) // scale for mine, its in zip(row, leader)]
+
+
+def _last_lead(steps, pivots):
+    """The number that leads the last step, 1 if there is no step."""
+    if not pivots:
+        return 1
+    return steps[len(pivots) - 1][pivots[-1]]
+
+
+def _filled(steps, pivots, start):
+    """A row with the numbers of the start, other ones in leading columns: 0 with all steps.
+
+    With numbers that the last lead divides, the others are whole ones, too (Cramer).
+    """
+    filled = list(start)
+    for row, column in reversed(list(zip(steps, pivots))):
+        rest = sum([mine * its for mine, its in zip(row, filled)])
+        filled[column] = -rest // row[column]
+    return filled
