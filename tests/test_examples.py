@@ -35,12 +35,31 @@ BEST = """
 raises NotTold()
 """
 
+TABLES = """
+>>> from trialground.squares import is_nowhere_below, squares_or_below, sum_at, table_of_squares
+>>> from trialground.tables import spread_by_table, table_of, table_row
+>>> less = (-1, 1)
+>>> [table_of(scale), table_row(scale, (one, nil)), spread_by_table(scale, (one, nil)), spread_by_table(scale, (one, less))]
+[(((2, 1), (1, 1)), ((1, 1), (2, 1))), ((2, 3), (-1, 3)), (2, 3), (2, 1)]
+>>> [is_nowhere_below(((one, two), (two, one))), squares_or_below(((one, two), (two, one)))[0], sum_at(((one, two), (two, one)), (one, less)), table_of_squares(2, ((one, (one, one)), (two, (nil, one))))]
+[False, 'below', (-2, 1), (((1, 1), (1, 1)), ((1, 1), (3, 1)))]
+>>> from trialground.two import are_equally_good, compared, is_at_least_as_good
+>>> few, far = (((one, nil), (nil, one)), (one, one), ()), (((one, one), (one, less)), (one, one), ())
+>>> [is_at_least_as_good(scale, few), is_at_least_as_good(few, scale), compared(few, scale)[0], is_at_least_as_good(far, scale), compared(far, few)[0], are_equally_good(few, few)]
+[True, False, 'not', False, 'as good', True]
+>>> from trialground.kinds import difference_spread, is_even_handed, is_of_kinds, parts_of, way_between
+>>> a, b, c = (one, nil, nil), (nil, one, nil), (nil, nil, one)
+>>> pairs = ((a, b, b, c, a, c), (one,) * 6, (0, 0, 1, 1, 2, 2))
+>>> [table_of(pairs), is_even_handed(pairs), difference_spread(pairs, 0, 2), parts_of(pairs), way_between((pairs[0][:4], pairs[1][:4], pairs[2][:4]), 0, 2)]
+[(((1, 1), (-1, 2), (-1, 2)), ((-1, 2), (1, 1), (-1, 2)), ((-1, 2), (-1, 2), (1, 1))), True, (4, 3), ((0, 1, 2),), (0, 1, 2)]
+"""
+
 
 class Examples(unittest.TestCase):
 
     def test_sessions(self):
         names = {}
-        for typed, wanted in session_steps(TRIALS + TELLINGS.lstrip("\n") + BEST.lstrip("\n")):
+        for typed, wanted in session_steps("".join(part.lstrip("\n") for part in (TRIALS, TELLINGS, BEST, TABLES))):
             with self.subTest(typed=typed):
                 self.run_step(typed, wanted, names)
 

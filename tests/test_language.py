@@ -125,6 +125,14 @@ class Language(unittest.TestCase):
         if isinstance(node.func, ast.Attribute):
             self.assertIn(node.func.attr, METHODS | {"__init__"}, (path, node.lineno))
 
+    def test_products_stand_in_no_generator_expression(self):
+        for path, tree in self.trees.items():
+            for node in ast.walk(tree):
+                if isinstance(node, ast.GeneratorExp):
+                    called = {each.func.id for each in ast.walk(node)
+                              if isinstance(each, ast.Call) and isinstance(each.func, ast.Name)}
+                    self.assertFalse(called & LIBRARY["itertools"], (path, node.lineno))
+
     def test_names(self):
         for path, tree in self.trees.items():
             named = {node.id for node in ast.walk(tree) if isinstance(node, ast.Name)}

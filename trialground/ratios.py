@@ -42,9 +42,24 @@ def times(one, other):
     return fraction(one[0] * other[0], one[1] * other[1])
 
 
+def over(one, other):
+    """One fraction over another one that is not 0."""
+    return fraction(one[0] * other[1], one[1] * other[0])
+
+
+def plus(one, other):
+    """The sum of two fractions."""
+    return fraction(one[0] * other[1] + other[0] * one[1], one[1] * other[1])
+
+
 def minus(one, other):
     """One fraction less the other."""
     return fraction(one[0] * other[1] - other[0] * one[1], one[1] * other[1])
+
+
+def is_above(one, other):
+    """Tell whether one fraction is above the other."""
+    return one[0] * other[1] > other[0] * one[1]
 
 
 def row_product(row, other):
@@ -56,3 +71,23 @@ def row_product(row, other):
         above = above * (common // below) + a * c * (common // (b * d))
         below = common
     return fraction(above, below)
+
+
+def row_sum(row):
+    """The sum of a row."""
+    return row_product(row, (ONE,) * len(row))
+
+
+def row_times(factor, row):
+    """A row, each fraction times a factor."""
+    return tuple([times(factor, part) for part in row])
+
+
+def row_minus(row, other):
+    """A row less another one, place by place."""
+    return tuple([minus(mine, its) for mine, its in zip(row, other)])
+
+
+def mark_row(many, marks):
+    """A row of so many fractions: those that the dict of marks tells by index, otherwise noughts."""
+    return tuple([marks.get(at, NIL) for at in range(many)])

@@ -1,6 +1,6 @@
 """Trials, their worlds and questions, and what plots yield."""
 
-from trialground.errors import InvalidLot, InvalidQuestion, InvalidTrial, InvalidWorld
+from trialground.errors import InvalidLot, InvalidQuestion, InvalidTrial, InvalidWorld, Unfit
 from trialground.ratios import NIL, ONE, is_row, is_whole, row_product
 
 MOST_PLOTS = 10
@@ -62,6 +62,15 @@ def check_trial(trial):
     """Raise InvalidTrial for no trial."""
     if not is_trial(trial):
         raise InvalidTrial(trial)
+
+
+def check_pair(one, other):
+    """Raise InvalidTrial for the first that is no trial, then Unfit for other numbers of unknowns."""
+    check_trial(one)
+    check_trial(other)
+    unknowns = len(other[0][0])
+    if unknowns != len(one[0][0]):
+        raise Unfit(unknowns)
 
 
 def check_world(trial, world):
