@@ -123,7 +123,10 @@ def own_solution(matrix, sides):
     width = len(matrix[0]) if matrix else 0
     for vector in null_space([list(line) + [side] for line, side in zip(matrix, sides)], width + 1):
         if vector[width] != 0:
-            return [-part / vector[width] for part in vector[:width]]
+            answer = [-part / vector[width] for part in vector[:width]]
+            # The tests lean on this: so it looks at itself.
+            assert times_row(matrix, answer) == list(sides)
+            return answer
     return None
 
 

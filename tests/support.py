@@ -77,7 +77,7 @@ def own_is_load(some_trial, telling, world):
 
 def null_space(matrix, width):
     """Rows that span all x with matrix times x = 0: Gauss's way, with Python's fractions."""
-    lines = [list(line) for line in matrix]
+    lines = [[Fraction(part) for part in line] for line in matrix]
     pivots = []
     for column in range(width):
         top = len(pivots)

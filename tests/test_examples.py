@@ -47,11 +47,44 @@ TABLES = """
 >>> few, far = (((one, nil), (nil, one)), (one, one), ()), (((one, one), (one, less)), (one, one), ())
 >>> [is_at_least_as_good(scale, few), is_at_least_as_good(few, scale), compared(few, scale)[0], is_at_least_as_good(far, scale), compared(far, few)[0], are_equally_good(few, few)]
 [True, False, 'not', False, 'as good', True]
+>>> from trialground.together import apart, fall, square_of, together, unblocked, with_plot
+>>> [table_of(apart(few, far)), fall(few, (one, nil), ((one, one), one, None)), square_of(few, ((one, one), two, None)), with_plot(few, ((one, one), one, None)) == scale]
+[(((3, 1), (0, 1)), ((0, 1), (3, 1))), (1, 3), ((1, 2), ((1, 1), (1, 1))), True]
 >>> from trialground.kinds import difference_spread, is_even_handed, is_of_kinds, parts_of, way_between
 >>> a, b, c = (one, nil, nil), (nil, one, nil), (nil, nil, one)
 >>> pairs = ((a, b, b, c, a, c), (one,) * 6, (0, 0, 1, 1, 2, 2))
 >>> [table_of(pairs), is_even_handed(pairs), difference_spread(pairs, 0, 2), parts_of(pairs), way_between((pairs[0][:4], pairs[1][:4], pairs[2][:4]), 0, 2)]
 [(((1, 1), (-1, 2), (-1, 2)), ((-1, 2), (1, 1), (-1, 2)), ((-1, 2), (-1, 2), (1, 1))), True, (4, 3), ((0, 1, 2),), (0, 1, 2)]
+>>> [is_of_kinds(scale), table_of(unblocked(pairs))[0], table_of(together(pairs[:2] + ((0,) * 6,), (((a,), (one,), (0,)))))[1]]
+[False, ((2, 1), (0, 1), (0, 1)), ((-6, 7), (10, 7), (-4, 7))]
+"""
+
+SHARES = """
+>>> from trialground.shares import are_shares, bettered, is_best, own_spreads, room, share_table
+>>> one, two, half, third, nil, less = (1, 1), (2, 1), (1, 2), (1, 3), (0, 1), (-1, 1)
+>>> plots = (((one, nil), (nil, one), (one, one)), (one, one, one), ())
+>>> even = (third, third, third)
+>>> [share_table(plots, even), own_spreads(plots, even), is_best(plots, even), room(plots, even)]
+[(((2, 3), (1, 3)), ((1, 3), (2, 3))), ((2, 1), (2, 1), (2, 1)), True, (1, 1)]
+>>> [own_spreads(plots, (half, half, nil)), own_spreads(plots, (one, nil, nil)), bettered(plots, (half, half, nil)), room(plots, (half, half, nil)), are_shares(plots, (half, half))]
+[((2, 1), (2, 1), (4, 1)), None, (((1, 3), (1, 3), (1, 3)), (4, 3)), (4, 1), False]
+"""
+
+ASKED = """
+>>> from trialground.asked import best_shares, height, spread_with
+>>> ramp = (((one, nil), (one, one), (one, two)), (one, one, one), ())
+>>> [best_shares(ramp, (nil, one)), spread_with(ramp, (nil, one), (half, nil, half)), spread_with(ramp, (nil, one), even), spread_with(ramp, (nil, one), (one, nil, nil))]
+[((1, 1), ((1, 2), (0, 1), (1, 2)), ((-1, 1), (1, 1))), (1, 1), (3, 2), None]
+>>> [height(ramp, (nil, one), (less, one)), height(ramp, (nil, one), (nil, one))]
+[(1, 1), None]
+"""
+
+LOSSES = """
+>>> from trialground.losses import does_spoil, outlasting, spoiling, strength
+>>> [does_spoil(ramp, (nil, one), (0,)), does_spoil(ramp, (nil, one), (0, 1)), spoiling(ramp, (nil, one)), strength(ramp, (nil, one)), outlasting(ramp, (nil, one), 2)]
+[False, True, ((0, 1), (0, 2), (1, 2)), 1, None]
+>>> [spoiling(plots, (one, nil)), strength(ramp, (nil, nil))]
+[((0, 1), (0, 2)), 3]
 """
 
 
@@ -59,7 +92,8 @@ class Examples(unittest.TestCase):
 
     def test_sessions(self):
         names = {}
-        for typed, wanted in session_steps("".join(part.lstrip("\n") for part in (TRIALS, TELLINGS, BEST, TABLES))):
+        parts = (TRIALS, TELLINGS, BEST, TABLES, SHARES, ASKED, LOSSES)
+        for typed, wanted in session_steps("".join(part.lstrip("\n") for part in parts)):
             with self.subTest(typed=typed):
                 self.run_step(typed, wanted, names)
 

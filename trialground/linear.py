@@ -16,6 +16,11 @@ def solution(rows, sides):
     return tuple([fraction(part, scale) for part in found[:width]])
 
 
+def leading_columns(rows):
+    """The columns that are no sums of multiples of those ahead of them; all others are."""
+    return _steps(rows, len(rows[0]))[1]
+
+
 def null_rows(rows):
     """Rows whose product with each of the rows is 0: all such are sums of their multiples."""
     width = len(rows[0])

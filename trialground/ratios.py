@@ -57,6 +57,19 @@ def minus(one, other):
     return fraction(one[0] * other[1] - other[0] * one[1], one[1] * other[1])
 
 
+def power(ratio, many):
+    """The product of so many times the same fraction."""
+    raised = ONE
+    for _ in range(many):
+        raised = times(raised, ratio)
+    return raised
+
+
+def size_of(ratio):
+    """The absolute value of a fraction."""
+    return (abs(ratio[0]), ratio[1])
+
+
 def is_above(one, other):
     """Tell whether one fraction is above the other."""
     return one[0] * other[1] > other[0] * one[1]

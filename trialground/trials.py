@@ -109,6 +109,11 @@ def is_question_of(trial, value):
     return is_row(value, len(trial[0][0]))
 
 
+def is_block(value):
+    """Tell whether a value is the number of a block."""
+    return is_whole(value) and 0 <= value <= GREATEST_BLOCK
+
+
 def count_levels(trial):
     """How many levels what is known to be a trial has."""
     return max(trial[2], default=-1) + 1
@@ -163,4 +168,4 @@ def _are_blocks(value, many):
     """Tell whether a value is () or the blocks of so many plots."""
     if not isinstance(value, tuple) or len(value) not in (0, many):
         return False
-    return all(is_whole(block) and 0 <= block <= GREATEST_BLOCK for block in value)
+    return all(is_block(block) for block in value)
