@@ -87,12 +87,57 @@ LOSSES = """
 [((0, 1), (0, 2)), 3]
 """
 
+FACTORS = r"""
+>>> from trialground.factors import alike, classes, effect_sign, odd_lot, piece, products, shortest
+>>> words = (((0, 1, 2), 1),)
+>>> [piece(3, words), products(3, words), shortest(3, words)]
+[((-1, -1, 1), (-1, 1, -1), (1, -1, -1), (1, 1, 1)), (((), 1), ((0, 1, 2), 1)), 3]
+>>> [effect_sign((1, -1, -1), (0, 1)), odd_lot(3, (0, 1), (1, 2)), alike(3, words, (0,), (1, 2)), alike(3, words, (0,), (1,)), classes(3, words)]
+[-1, (0, 2), 1, 0, (((), (0, 1, 2)), ((0,), (1, 2)), ((0, 1), (2,)), ((0, 2), (1,)))]
+>>> [piece(2, (((0,), 1), ((0,), -1))), products(2, (((0,), 1), ((0,), -1)))]
+[(), (((), -1), ((), 1), ((0,), -1), ((0,), 1))]
+>>> shortest(1, (((0,), 1), ((0,), -1)))
+raises Unfit((((0,), 1), ((0,), -1)))
+"""
+
+PLANS = r"""
+>>> from trialground.plans import balance, is_balanced, missing, sum_of, trial_of, unbalanced, words_of
+>>> runs = piece(3, words)
+>>> [balance(runs), is_balanced(runs, 3), sum_of(runs, (0, 1, 2)), unbalanced(runs, 3), piece(3, words_of(runs)) == runs, words_of(runs[:3]), missing(runs[:3]), missing(runs)]
+[2, False, 4, (0, 1, 2), True, None, (0, 1, 2), None]
+>>> [trial_of(runs[:2], ((), (0,), (1, 2))), least_spread(trial_of(runs, ((), (0,), (1,))), (nil, one, nil))]
+[((((1, 1), (-1, 1), (-1, 1)), ((1, 1), (-1, 1), (-1, 1))), ((1, 1), (1, 1)), ()), (1, 4)]
+"""
+
+SHEETS = r"""
+>>> from trialground.sheets import is_name, is_sheet, read_sheet, sheet_text
+>>> bench = (("left", "right"), scale, (("both", (one, one)),))
+>>> [is_sheet(bench), is_sheet(bench[:2]), is_name("plot"), is_name("left"), sheet_text(bench)]
+[True, False, False, True, 'unknowns left right\nplain\nplot 1 0 1\nplot 0 1 1\nplot 1 1 1\nquestion both 1 1\n']
+>>> [read_sheet(sheet_text(bench)) == bench, read_sheet("unknowns a\nblocks\nplot -1/2 1 0\n")]
+[True, (('a',), ((((-1, 2),),), ((1, 1),), (0,)), ())]
+>>> read_sheet("unknowns a\nplain\nplot 1 0\n")
+raises InvalidText(2)
+>>> read_sheet("unknowns a\nplain\n")
+raises InvalidText(2)
+"""
+
+DEEDS = r"""
+>>> from trialground.deeds import behind, fits, leaves, standing
+>>> [standing(scale, (one, nil)), standing(twice, (one, nil)), leaves(scale, ("strike", 1), (one, nil)), leaves(beds, ("strike", 2), (one,))]
+[((2, 3), ((2, 3), (-1, 3), (1, 3))), (), False, True]
+>>> [leaves(scale, ("put", (one, nil), one, None), (one, nil)), leaves(scale, ("put", (one, two), one, None), (one, nil)), leaves(beds, ("put", (one,), one, 3), (one,))]
+[False, True, True]
+>>> [behind(scale, ("weigh", 0, two))[1], behind(beds, ("block", 2, 0))[2], behind(scale, ("order", (2, 0, 1)))[0], fits(scale, ("block", 0, 0)), fits(beds, ("put", (one,), one, 4))]
+[((2, 1), (1, 1), (1, 1)), (0, 0, 0), (((1, 1), (1, 1)), ((1, 1), (0, 1)), ((0, 1), (1, 1))), False, True]
+"""
+
 
 class Examples(unittest.TestCase):
 
     def test_sessions(self):
         names = {}
-        parts = (TRIALS, TELLINGS, BEST, TABLES, SHARES, ASKED, LOSSES)
+        parts = (TRIALS, TELLINGS, BEST, TABLES, SHARES, ASKED, LOSSES, FACTORS, PLANS, SHEETS, DEEDS)
         for typed, wanted in session_steps("".join(part.lstrip("\n") for part in parts)):
             with self.subTest(typed=typed):
                 self.run_step(typed, wanted, names)

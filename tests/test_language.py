@@ -21,7 +21,8 @@ UNUSED = set("""register mro elements open input law version_info with_traceback
     NamedTuple TypedDict TYPE_CHECKING abstractmethod""".split())
 METHODS = set("""append clear copy count endswith extend find get index insert isalnum isalpha isdigit islower isspace
     isupper items join keys ljust lower lstrip partition pop remove replace reverse rfind rjust rpartition rsplit rstrip
-    setdefault split splitlines startswith strip update upper values zfill bit_length add discard sort""".split())
+    setdefault split splitlines startswith strip update upper values zfill bit_length add discard sort isascii removeprefix
+    removesuffix""".split())
 STATEMENTS = (ast.Import, ast.Global, ast.AsyncFunctionDef, ast.AsyncFor, ast.AsyncWith, ast.TryStar, ast.Div, ast.Await)
 
 
@@ -51,6 +52,12 @@ def top_names(tree):
         elif isinstance(node, ast.Assign):
             for target in node.targets:
                 yield target.id
+
+
+def own_methods(tree):
+    """The names of the methods of a file's classes."""
+    return {node.name for each in ast.walk(tree) if isinstance(each, ast.ClassDef) for node in each.body
+            if isinstance(node, ast.FunctionDef)}
 
 
 class Language(unittest.TestCase):
@@ -116,14 +123,14 @@ class Language(unittest.TestCase):
                     if isinstance(node.value, str):
                         self.assertNotIn(chr(37), node.value, path)
                 if isinstance(node, ast.Call):
-                    self.check_call(path, node)
+                    self.check_call(path, node, METHODS | own_methods(tree))
 
-    def check_call(self, path, node):
+    def check_call(self, path, node, methods):
         for part in node.args + [keyword.value for keyword in node.keywords if keyword.arg is None]:
             if isinstance(part, ast.Starred):
                 self.assertIsInstance(part.value, (ast.Name, ast.Attribute, ast.List, ast.Tuple), (path, node.lineno))
         if isinstance(node.func, ast.Attribute):
-            self.assertIn(node.func.attr, METHODS | {"__init__"}, (path, node.lineno))
+            self.assertIn(node.func.attr, methods, (path, node.lineno))
 
     def test_products_stand_in_no_generator_expression(self):
         for path, tree in self.trees.items():
@@ -146,7 +153,7 @@ class Language(unittest.TestCase):
         for path, tree in self.trees.items():
             kept = {alias.name for node in tree.body if isinstance(node, ast.ImportFrom) for alias in node.names}
             kept |= {node.name for node in tree.body if isinstance(node, ast.ClassDef)}
-            for function in [node for node in tree.body if isinstance(node, ast.FunctionDef)]:
+            for function in [node for node in ast.walk(tree) if isinstance(node, ast.FunctionDef)]:
                 self.assertFalse(kept & set(bound_names(function)), (path, function.name))
 
     def test_everything_imported_is_used(self):

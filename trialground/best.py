@@ -10,12 +10,12 @@ from trialground.trials import wide_question, wide_rows, yields_in
 
 def best_telling(trial, question):
     """The best telling for a question."""
-    return _checked_best(trial, question)[0]
+    return checked_best(trial, question)[0]
 
 
 def load_of(trial, question):
     """Any load of the best telling for a question."""
-    return _checked_best(trial, question)[1]
+    return checked_best(trial, question)[1]
 
 
 def is_load(trial, telling, value):
@@ -27,7 +27,7 @@ def is_load(trial, telling, value):
 
 def least_spread(trial, question):
     """The spread of the best telling for a question."""
-    return answer_in(question, _checked_best(trial, question)[1])
+    return answer_in(question, checked_best(trial, question)[1])
 
 
 def excess(trial, question, telling):
@@ -39,6 +39,16 @@ def excess(trial, question, telling):
         raise Unfit(telling)
     load = best_with_load(trial, question)[1]
     return minus(spread_in(trial, telling), answer_in(question, load))
+
+
+def checked_best(trial, question):
+    """The best telling for a question and a load of it, after a look at both."""
+    check_trial(trial)
+    check_question(trial, question)
+    found = best_with_load(trial, question)
+    if found is None:
+        raise NotTold()
+    return found
 
 
 def best_with_load(trial, question):
@@ -54,14 +64,9 @@ def best_with_load(trial, question):
     return (found[:plots], (world[:unknowns], world[unknowns:]))
 
 
-def _checked_best(trial, question):
-    """The best telling and a load, after a look at the arguments."""
-    check_trial(trial)
-    check_question(trial, question)
-    found = best_with_load(trial, question)
-    if found is None:
-        raise NotTold()
-    return found
+def has_load(trial, telling):
+    """Tell whether what is known to be a telling has a load."""
+    return solution(wide_rows(trial), _loaded(trial, telling)) is not None
 
 
 def _loaded(trial, telling):

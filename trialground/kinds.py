@@ -1,7 +1,8 @@
 """Trials of kinds: which kinds hang together, and how well their differences are told."""
 
 from trialground.errors import InvalidNumber, Unfit
-from trialground.ratios import NIL, ONE, fraction, is_whole
+from trialground.lots import is_index
+from trialground.ratios import NIL, ONE, fraction
 from trialground.tables import least_in, table_in
 from trialground.trials import check_trial
 
@@ -14,15 +15,15 @@ def is_of_kinds(trial):
 
 def way_between(trial, kind, other):
     """Any way from a kind to another one; None."""
-    _check_kinds(trial)
-    _check_kind(trial, kind)
-    _check_kind(trial, other)
+    check_kinds(trial)
+    check_kind(trial, kind)
+    check_kind(trial, other)
     return _ways_from(trial, kind).get(other)
 
 
 def parts_of(trial):
     """The ascending tuple of the lots of kinds that hang together."""
-    _check_kinds(trial)
+    check_kinds(trial)
     parts = []
     for kind in range(len(trial[0][0])):
         part = tuple(sorted(list(_ways_from(trial, kind))))
@@ -33,16 +34,16 @@ def parts_of(trial):
 
 def difference_spread(trial, kind, other):
     """The least spread of the difference of two kinds; None if it is not told."""
-    _check_kinds(trial)
-    _check_kind(trial, kind)
-    _check_kind(trial, other)
+    check_kinds(trial)
+    check_kind(trial, kind)
+    check_kind(trial, other)
     unknowns = range(len(trial[0][0]))
     return least_in(trial, tuple([fraction(int(at == kind) - int(at == other), 1) for at in unknowns]))
 
 
 def is_even_handed(trial):
     """Tell whether all differences are told with one least spread; False for one kind."""
-    _check_kinds(trial)
+    check_kinds(trial)
     table = table_in(trial)
     many = len(table)
     # The numbers of each row come to 0, so one kind alone has no number above 0.
@@ -51,17 +52,24 @@ def is_even_handed(trial):
     return own[0][0] > 0 and own == own[:1] * len(own) and beside == beside[:1] * len(beside)
 
 
-def _check_kinds(trial):
+def check_kinds(trial):
     """Raise InvalidTrial for no trial, Unfit for one that is not of kinds."""
     check_trial(trial)
     if not _has_kinds(trial):
         raise Unfit(trial)
 
 
-def _check_kind(trial, kind):
+def check_kind(trial, kind):
     """Raise InvalidNumber for no index of an unknown."""
-    if not is_whole(kind) or not 0 <= kind < len(trial[0][0]):
+    if not is_index(kind, len(trial[0][0])):
         raise InvalidNumber(kind)
+
+
+def neighbours(trial, kind):
+    """The kinds with plots in the blocks of a kind's plots, the kind itself among them."""
+    plots = [(row.index(ONE), block) for row, block in zip(trial[0], trial[2])]
+    blocks = [block for its, block in plots if its == kind]
+    return sorted({its for its, block in plots if block in blocks})
 
 
 def _has_kinds(trial):
@@ -80,15 +88,8 @@ def _ways_from(trial, kind):
     ends = [kind]
     while ends:
         end = ends.pop()
-        for near in _neighbours(trial, end):
+        for near in neighbours(trial, end):
             if near not in ways:
                 ways[near] = ways[end] + (near,)
                 ends.append(near)
     return ways
-
-
-def _neighbours(trial, kind):
-    """The kinds with plots in the blocks of a kind's plots, the kind itself among them."""
-    plots = [(row.index(ONE), block) for row, block in zip(trial[0], trial[2])]
-    blocks = [block for its, block in plots if its == kind]
-    return sorted({its for its, block in plots if block in blocks})

@@ -4,7 +4,8 @@ from itertools import combinations
 
 from trialground.errors import InvalidNumber, NotTold
 from trialground.linear import leading_columns, null_rows, solution
-from trialground.ratios import NIL, is_whole, row_product
+from trialground.lots import is_index
+from trialground.ratios import NIL, row_product
 from trialground.tellings import fair_sums
 from trialground.trials import check_lot, check_question, check_trial, wide_question, wide_rows
 
@@ -35,7 +36,7 @@ def strength(trial, question):
 def outlasting(trial, question, many):
     """Any fair tellings such that no lot of so many plots meets all of them; None."""
     _check_question(trial, question)
-    if not is_whole(many) or not 0 <= many <= len(trial[0]):
+    if not is_index(many, len(trial[0]) + 1):
         raise InvalidNumber(many)
     _check_told(trial, question)
     tellings = []
@@ -46,6 +47,14 @@ def outlasting(trial, question, many):
                 return None
             tellings.append(telling)
     return tuple(tellings)
+
+
+def is_met(tellings, many):
+    """Tell whether some lot of so many plots meets all of one or more tellings."""
+    for lot in combinations(range(len(tellings[0])), many):
+        if not any([_is_out_of(lot, telling) for telling in tellings]):
+            return True
+    return False
 
 
 def _check_question(trial, question):

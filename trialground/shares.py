@@ -2,9 +2,9 @@
 
 from trialground.errors import InvalidShares, Unfit
 from trialground.linear import null_rows, solution
-from trialground.ratios import ONE, fraction, is_above, is_row, minus, over, plus, power, row_product, row_sum
+from trialground.ratios import NIL, ONE, fraction, is_above, is_row, minus, over, plus, power, row_product, row_sum
 from trialground.ratios import row_times, times
-from trialground.squares import sum_of_squares
+from trialground.squares import split_table, sum_of_squares
 from trialground.trials import check_trial
 
 
@@ -82,6 +82,19 @@ def table_by(trial, shares):
     rows, spreads, _ = trial
     worths = [over(share, spread) for share, spread in zip(shares, spreads)]
     return sum_of_squares(len(rows[0]), list(zip(worths, rows)))
+
+
+def determinant_by(trial, shares):
+    """The determinant of the share table of what are known to be shares."""
+    squares = split_table(table_by(trial, shares))[1]
+    if len(squares) < _unknowns(trial):
+        return NIL
+    # Each square takes a letter out with 1 over a number on the diagonal: the product of these
+    # numbers is the determinant.
+    made = ONE
+    for worth, _ in squares:
+        made = over(made, worth)
+    return made
 
 
 def _check_all(trial, shares):

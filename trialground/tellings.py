@@ -29,7 +29,7 @@ def told_or_shift(trial, question):
     telling = solution(fair_sums(trial), wide_question(trial, question))
     if telling is not None:
         return ("told", telling)
-    return ("shift", _shift_against(trial, question))
+    return ("shift", shift_without(trial, question, ()))
 
 
 def is_shift(trial, question, value):
@@ -56,19 +56,21 @@ def spread_in(trial, telling):
     return row_product([times(weight, weight) for weight in telling], trial[1])
 
 
+def shift_without(trial, question, lot):
+    """Any world in which all plots out of a lot yield 0, but the question's answer is not 0; None."""
+    wide = wide_question(trial, question)
+    # The row of noughts asks for nothing; it stands for no plots at all.
+    kept = [(NIL,) * len(wide)] + [row for plot, row in enumerate(wide_rows(trial)) if plot not in lot]
+    for flat in null_rows(kept):
+        if row_product(wide, flat) != NIL:
+            return (flat[:len(question)], flat[len(question):])
+    return None
+
+
 def fair_sums(trial):
     """For each unknown, then for each level, the row of what each plot's weight adds to its sum."""
     wide = wide_rows(trial)
     return [tuple(column) for column in zip(*wide)]
-
-
-def _shift_against(trial, question):
-    """Any shift against a question that is not told."""
-    wide = wide_question(trial, question)
-    for flat in null_rows(wide_rows(trial)):
-        if row_product(wide, flat) != NIL:
-            return (flat[:len(question)], flat[len(question):])
-    return None
 
 
 def _does_shift(trial, question, world):

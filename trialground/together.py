@@ -1,10 +1,10 @@
 """Trials put together, without their blocks, and with a plot more."""
 
 from trialground.errors import InvalidRows, NotTold, Unfit
-from trialground.ratios import NIL, ONE, is_fraction, over, plus, row_minus, row_product, times
+from trialground.ratios import NIL, ONE, over, plus, row_minus, row_product, times
 from trialground.tables import block_heft, block_mean, row_in
 from trialground.trials import GREATEST_BLOCK, MOST_PLOTS, check_pair, check_question, check_trial, count_levels
-from trialground.trials import is_block, is_question_of
+from trialground.trials import is_block, is_question_of, is_spread
 
 
 def apart(one, other):
@@ -33,9 +33,7 @@ def with_plot(trial, plot):
     many = len(trial[0]) + 1
     if many > MOST_PLOTS:
         raise Unfit(many)
-    row, spread, block = plot
-    rows, spreads, blocks = trial
-    return (rows + (row,), spreads + (spread,), () if block is None else blocks + (block,))
+    return trial_and(trial, plot)
 
 
 def square_of(trial, plot):
@@ -56,6 +54,23 @@ def fall(trial, question, plot):
     return NIL if square is None else _fall_by(trial, question, square)
 
 
+def is_plot_for(trial, value):
+    """Tell whether a value is a row, a spread and a block, or None, for one plot more."""
+    if not isinstance(value, tuple) or len(value) != 3:
+        return False
+    row, spread, block = value
+    if not is_question_of(trial, row) or not is_spread(spread):
+        return False
+    return block is None if trial[2] == () else is_block(block)
+
+
+def trial_and(trial, plot):
+    """What is known to be a trial with what is known to be one plot more, however many there are."""
+    row, spread, block = plot
+    rows, spreads, blocks = trial
+    return (rows + (row,), spreads + (spread,), () if block is None else blocks + (block,))
+
+
 def _joined(one, other, step):
     """The plots of two trials, the block numbers of the second one counted on by a step."""
     if (one[2] == ()) != (other[2] == ()):
@@ -72,18 +87,8 @@ def _joined(one, other, step):
 
 def _check_plot(trial, plot):
     """Raise InvalidRows for no plot more for the trial."""
-    if not _is_plot_for(trial, plot):
+    if not is_plot_for(trial, plot):
         raise InvalidRows(None)
-
-
-def _is_plot_for(trial, value):
-    """Tell whether a value is a row, a spread and a block, or None, for one plot more."""
-    if not isinstance(value, tuple) or len(value) != 3:
-        return False
-    row, spread, block = value
-    if not is_question_of(trial, row) or not is_fraction(spread) or spread[0] <= 0:
-        return False
-    return block is None if trial[2] == () else is_block(block)
 
 
 def _added_square(trial, plot):

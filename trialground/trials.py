@@ -1,7 +1,8 @@
 """Trials, their worlds and questions, and what plots yield."""
 
 from trialground.errors import InvalidLot, InvalidQuestion, InvalidTrial, InvalidWorld, Unfit
-from trialground.ratios import NIL, ONE, is_row, is_whole, row_product
+from trialground.lots import is_index, wrong_in_lot
+from trialground.ratios import NIL, ONE, is_fraction, is_row, row_product
 
 MOST_PLOTS = 10
 MOST_UNKNOWNS = 5
@@ -89,11 +90,9 @@ def check_lot(trial, lot):
     """Raise InvalidLot for no ascending tuple of one or more plots of the trial."""
     if not isinstance(lot, tuple) or len(lot) == 0:
         raise InvalidLot(None)
-    ahead = -1
-    for index, plot in enumerate(lot):
-        if not is_whole(plot) or not ahead < plot < len(trial[0]):
-            raise InvalidLot(index)
-        ahead = plot
+    at = wrong_in_lot(lot, len(trial[0]))
+    if at is not None:
+        raise InvalidLot(at)
 
 
 def is_world_of(trial, value):
@@ -109,9 +108,14 @@ def is_question_of(trial, value):
     return is_row(value, len(trial[0][0]))
 
 
+def is_spread(value):
+    """Tell whether a value is a fraction above 0."""
+    return is_fraction(value) and value[0] > 0
+
+
 def is_block(value):
     """Tell whether a value is the number of a block."""
-    return is_whole(value) and 0 <= value <= GREATEST_BLOCK
+    return is_index(value, GREATEST_BLOCK + 1)
 
 
 def count_levels(trial):
@@ -161,7 +165,7 @@ def _are_plots(value):
 
 def _are_spreads(value, many):
     """Tell whether a value is a row of so many fractions above 0."""
-    return is_row(value, many) and all(spread[0] > 0 for spread in value)
+    return isinstance(value, tuple) and len(value) == many and all(is_spread(spread) for spread in value)
 
 
 def _are_blocks(value, many):
