@@ -1,5 +1,7 @@
-"""The sessions of the interface, as they stand in the document."""
+"""The sessions of the interface, as they stand in the document, and those of the README."""
 
+import pathlib
+import re
 import unittest
 
 from tests.support import session_steps
@@ -132,14 +134,57 @@ DEEDS = r"""
 [((2, 1), (1, 1), (1, 1)), (0, 0, 0), (((1, 1), (1, 1)), ((1, 1), (0, 1)), ((0, 1), (1, 1))), False, True]
 """
 
+BOOKS = r"""
+>>> from trialground.books import again, changed, fresh_book, sheet_in, standings_in, undone, work_of
+>>> book = fresh_book(bench)
+>>> lighter = changed(book, ("strike", 2))
+>>> [standings_in(book), work_of(book, ("strike", 2)), standings_in(lighter), undone(lighter)[0] == book[0], again(undone(lighter)) == lighter]
+[(((2, 3), ((1, 3), (1, 3), (2, 3))),), ('both',), (((2, 1), ((1, 1), (1, 1))),), True, True]
+>>> [work_of(book, ("unknown", (one, one, (-1, 1)), "more")), sheet_in(changed(book, ("drop", "both")))[2]]
+[(), ()]
+>>> undone(book)
+raises NothingToUndo()
+"""
+
+CONSOLE = r"""
+>>> from trialground.console import fresh_console, said, told_all
+>>> lines = ("sheet unknowns left right ; plain ; plot 1 0 1 ; plot 0 1 1 ; plot 1 1 1 ; question both 1 1", "least both", "best both", "fair both 1 1 0", "told", "lost both", "strike 2", "least both", "undo", "weigh 7 1", "drop both", "least both", "piece 2 +01", "classes 2 +01", "piece 1 +0 -0")
+>>> told_all(fresh_console(), lines)[1]
+('3 plots, 1 questions', '2/3', '1/3 1/3 2/3', 'yes', 'left 2/3\nright 2/3', '0 2\n1 2', 'anew: both', '2', 'done', 'does not fit', 'anew:', 'no such question', '--\n++', '+ +01\n+0 +1', 'empty')
+>>> [said(fresh_console(), "told")[1], said(fresh_console(), "sheet unknowns")[1], said(fresh_console(), "piece 2 +2")[1]]
+['no sheet', 'wrong at 0', 'not understood']
+"""
+
+CHECKER = r"""
+>>> from trialground.checker import accepts
+>>> [accepts(("alike", 3, words, (0,), (1, 2), 1), (0,)), accepts(("apart", 3, words, (0,), (1,)), (runs[0], runs[1])), accepts(("no piece", runs[:3]), (0, 1, 2)), accepts(("balanced", runs, 3), ()), accepts("told", ())]
+[True, True, True, False, False]
+"""
+
+CERTIFICATES = r"""
+>>> from trialground.certificates import certify_balance, certify_best, certify_change, certify_effects, certify_good, certify_losses, certify_piece, certify_read, certify_told
+>>> [certify_told(scale, (one, nil))[0][0], certify_told(twice, (one, nil))[0][0], certify_effects(3, words, (0,), (1,))[0][0], certify_effects(3, words, (0,), (1, 2))[0][5], certify_piece(runs[:3])[1], certify_balance(runs, 3)[1]]
+['told', 'not told', 'apart', 1, (0, 1, 2), (0, 1, 2)]
+>>> [certify_read("unknowns\n"), certify_change(scale, ("strike", 3))[0][0], certify_good(scale, twice)[0][0], certify_losses(scale, (one, one), 1)[0][0], accepts(*certify_best(scale, (one, one)))]
+[(('not read', 'unknowns\n', 0), ()), 'no change', 'not as good', 'outlasts', True]
+"""
+
 
 class Examples(unittest.TestCase):
 
     def test_sessions(self):
         names = {}
-        parts = (TRIALS, TELLINGS, BEST, TABLES, SHARES, ASKED, LOSSES, FACTORS, PLANS, SHEETS, DEEDS)
+        parts = (TRIALS, TELLINGS, BEST, TABLES, SHARES, ASKED, LOSSES, FACTORS, PLANS, SHEETS, DEEDS, BOOKS, CONSOLE,
+                 CHECKER, CERTIFICATES)
         for typed, wanted in session_steps("".join(part.lstrip("\n") for part in parts)):
             with self.subTest(typed=typed):
+                self.run_step(typed, wanted, names)
+
+    def test_readme(self):
+        text = (pathlib.Path(__file__).resolve().parent.parent / "README.md").read_text(encoding="utf-8")
+        names = {}
+        for part in re.findall("```\n(>>> .*?)```", text, re.DOTALL):
+            for typed, wanted in session_steps(part):
                 self.run_step(typed, wanted, names)
 
     def run_step(self, typed, wanted, names):

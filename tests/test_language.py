@@ -23,6 +23,11 @@ METHODS = set("""append clear copy count endswith extend find get index insert i
     isupper items join keys ljust lower lstrip partition pop remove replace reverse rfind rjust rpartition rsplit rstrip
     setdefault split splitlines startswith strip update upper values zfill bit_length add discard sort isascii removeprefix
     removesuffix""".split())
+# What has to be iterated where it stands, and what iterates it there.
+ITERATED = {"range", "zip", "enumerate", "reversed", "map"}
+VIEWS = {"items", "keys", "values"}
+ITERATING = {"list", "tuple", "dict", "sorted", "sum", "any", "all", "enumerate", "zip", "min", "max", "reversed", "len"}
+ITERATING |= LIBRARY["itertools"]
 STATEMENTS = (ast.Import, ast.Global, ast.AsyncFunctionDef, ast.AsyncFor, ast.AsyncWith, ast.TryStar, ast.Div, ast.Await)
 
 
@@ -58,6 +63,10 @@ def own_methods(tree):
     """The names of the methods of a file's classes."""
     return {node.name for each in ast.walk(tree) if isinstance(each, ast.ClassDef) for node in each.body
             if isinstance(node, ast.FunctionDef)}
+
+
+def parents_of(tree):
+    return {part: node for node in ast.walk(tree) for part in ast.iter_child_nodes(node)}
 
 
 class Language(unittest.TestCase):
@@ -139,6 +148,34 @@ class Language(unittest.TestCase):
                     called = {each.func.id for each in ast.walk(node)
                               if isinstance(each, ast.Call) and isinstance(each.func, ast.Name)}
                     self.assertFalse(called & LIBRARY["itertools"], (path, node.lineno))
+
+    def test_what_is_iterated_at_once(self):
+        for path, tree in self.trees.items():
+            parents = parents_of(tree)
+            for node in ast.walk(tree):
+                named = isinstance(node, ast.Call) and isinstance(node.func, ast.Name) and node.func.id in ITERATED
+                viewed = isinstance(node, ast.Call) and isinstance(node.func, ast.Attribute) and node.func.attr in VIEWS
+                if named or viewed:
+                    self.assertTrue(self.is_iterated(node, parents[node]), (path, node.lineno))
+
+    def is_iterated(self, node, parent):
+        if isinstance(parent, (ast.For, ast.comprehension)):
+            return parent.iter is node
+        if isinstance(parent, ast.Call) and isinstance(parent.func, ast.Name):
+            return parent.func.id in ITERATING and parent.args[0] is node
+        # A range may be kept, or asked what is in it.
+        kept = isinstance(parent, (ast.Assign, ast.Compare))
+        return kept and isinstance(node.func, ast.Name) and node.func.id == "range"
+
+    def test_imports_lead_in_no_circle(self):
+        ahead = {path.stem: {node.module.split(".")[1] for node in tree.body
+                             if isinstance(node, ast.ImportFrom) and node.module.startswith("trialground.")}
+                 for path, tree in self.trees.items()}
+        while ahead:
+            free = [name for name, needed in ahead.items() if not needed & set(ahead)]
+            self.assertTrue(free, ahead)
+            for name in free:
+                del ahead[name]
 
     def test_names(self):
         for path, tree in self.trees.items():

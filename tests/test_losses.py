@@ -4,7 +4,8 @@ import random
 import unittest
 from itertools import combinations
 
-from tests.sums import matrix_of, numbers, own_solution, table_trial
+from tests.console_sums import own_spoils
+from tests.sums import table_trial
 from tests.support import own_is_fair, row, some_question, trial
 from trialground.errors import InvalidNumber, NotTold
 from trialground.losses import does_spoil, outlasting, spoiling, strength
@@ -12,18 +13,6 @@ from trialground.losses import does_spoil, outlasting, spoiling, strength
 RAMP = trial([(1, 0), (1, 1), (1, 2)])
 PLOTS = trial([(1, 0), (0, 1), (1, 1)])
 BEDS = trial([(1,), (0,), (1,), (3,)], [1, 2, 1, 5], (0, 0, 2, 2))
-
-
-def own_spoils(made, question, lot):
-    """Whether no weights of the other plots make the question, by the test's own equations."""
-    rows, blocks = matrix_of(made[0]), made[2]
-    kept = [plot for plot in range(len(rows)) if plot not in lot]
-    sides = numbers(question) + [0] * len(set(blocks))
-    if not kept:
-        return any(sides)
-    lines = [[rows[plot][unknown] for plot in kept] for unknown in range(len(question))]
-    lines += [[int(blocks[plot] == block) for plot in kept] for block in sorted(set(blocks))]
-    return own_solution(lines, sides) is None
 
 
 def lots(plots):
