@@ -6,7 +6,7 @@ import unittest
 from tests.console_sums import Model
 from tests.deed_sums import own_changed, own_standings, own_work, some_change
 from tests.sheet_sums import BEDS, BENCH, some_sheet
-from tests.support import STRANGE, row, trial
+from tests.support import STRANGE, Odd, row, trial
 from tests.test_deeds import NO_DEEDS
 from trialground.books import again, changed, fresh_book, sheet_in, standings_in, undone, work_of
 from trialground.errors import InvalidDeed, NothingToRedo, NothingToUndo
@@ -24,6 +24,7 @@ NO_CHANGES = tuple(each for each in NO_DEEDS if repr(each) not in (repr(("unknow
     ("keep", "up", None), ("keep", row(1, 1), "up"), ("keep", "up", row(1, 1), ()), ["keep", "up", row(1, 1)],
     ("keep", "up", ((1, 1), (2, 2))), ("drop",), ("drop", "up"), ("drop", None), ("drop", ("both",)), ("drop", "both", ()),
     ("drop", b"both"), ["drop", "both"], ("drop", ""), ("drop", 0), ("dropped", "both"), ("undo",), ("redo",), ("sheet",),
+    ("drop", Odd()), ("keep", Odd(), row(1, 1)), ("keep", "up", Odd()), ("unknown", Odd(), "up"), ("unknown", row(1, 1, 1), Odd()),
 )
 
 

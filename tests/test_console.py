@@ -51,10 +51,21 @@ class Understood(unittest.TestCase):
 
     def test_what_is_not(self):
         for line in NOT_UNDERSTOOD:
-            self.assertIsNone(own_parts(line), line)
-            self.assertEqual(said(None, line), (None, "not understood"), repr(line))
-            for console in self.consoles():
-                self.assertEqual(said(console, line), (console, "not understood"), repr(line))
+            self.check_not(line)
+
+    def check_not(self, line):
+        self.assertIsNone(own_parts(line), line)
+        self.assertEqual(said(None, line), (None, "not understood"), repr(line))
+        for console in self.consoles():
+            self.assertEqual(said(console, line), (console, "not understood"), repr(line))
+
+    def test_a_number_has_up_to_six_figures(self):
+        for words in ("strike {}", "put 1 {}", "put 1/{} 1", "put -{} 1", "weigh {} 1", "weigh 0 1/{}", "block {} 0", "block 0 {}",
+                      "order 0 {}", "unknown c {}", "keep c 1 {}", "fair c -1/{}"):
+            self.assertIsNotNone(own_parts(words.format("9" * 6)))
+            self.assertNotEqual(said(None, words.format("9" * 6))[1], "not understood")
+            for figures in (7, 8, 400, 3000):
+                self.check_not(words.format("9" * figures))
 
     def test_without_a_book(self):
         self.assertIsNone(fresh_console())

@@ -5,7 +5,7 @@ import unittest
 
 from tests.deed_sums import own_along, own_leaves, own_made, own_standing, own_standing_along, some_deed
 from tests.sums import table_trial
-from tests.support import STRANGE, number, row, some_question, some_row, trial
+from tests.support import STRANGE, Odd, number, row, some_question, some_row, trial
 from trialground.deeds import behind, fits, leaves, standing
 from trialground.errors import InvalidDeed
 
@@ -28,6 +28,9 @@ NO_DEEDS = STRANGE + (
     ("unknown",), ("unknown", row(1, 1)), ("unknown", row(1, 1, 1, 1)), ("unknown", list(row(1, 1, 1))), ("unknown", (1, 1, 1)),
     ("unknown", row(1, 1) + ((2, 2),)), ("unknown", row(1, 1, 1), "name"), ("unknown", ()), ("unknown", row(1, 1) + ((0, True),)),
     ("keep", "a", row(1, 1)), ("drop", "a"), ("undo",), ("", 0), ((), 0), (("strike", 0),), ("strike", "strike"),
+    (Odd(), 0), ("strike", Odd()), ("weigh", Odd(), (1, 1)), ("weigh", 0, Odd()), ("block", Odd(), 0), ("block", 0, Odd()),
+    ("order", Odd()), ("order", (0, 1, Odd())), ("unknown", Odd()), ("put", Odd(), (1, 1), None), ("put", row(1, 1), Odd(), None),
+    ("put", row(1, 1), (1, 1), Odd()),
 )
 
 

@@ -91,14 +91,14 @@ def _deed_of(change):
 
 def _kept_in(state):
     """The name, the question and the standing of each question of a state."""
-    (_, _, questions), standings = state
-    return [(name, question, stands) for (name, question), stands in zip(questions, standings)]
+    sheet, standings = state
+    return [(name, question, stands) for (name, question), stands in zip(sheet[2], standings)]
 
 
 def _state_of(names, trial, kept):
     """The state with these names, this trial, and the questions that are told as in _kept_in."""
     questions = tuple([(name, question) for name, question, _ in kept])
-    return ((names, trial, questions), tuple([stands for _, _, stands in kept]))
+    return ((names, trial, questions), tuple([each[2] for each in kept]))
 
 
 def _state_behind(state, change):

@@ -160,11 +160,11 @@ def _best_shares(parts, paper):
     if not are_shares(trial, shares) or not _is_pair(paper):
         return False
     telling, barrier = paper
-    top = height(trial, question, barrier)
-    if top is None or not is_fair(trial, question, telling):
+    if not is_fair(trial, question, telling):
         return False
     sizes = tuple([size_of(weight) for weight in telling])
-    return row_sum(sizes) == top and row_times(over(ONE, top), sizes) == shares
+    top = row_sum(sizes)
+    return height(trial, question, barrier) == top and row_times(over(ONE, top), sizes) == shares
 
 
 def _is_told(trial, question):
@@ -285,8 +285,8 @@ def _not_read(parts, paper):
     return isinstance(text, str) and is_whole(line) and sheet_or_wrong(text)[1] == line and _is_empty(paper)
 
 
-# Which function checks a claim, by its text and its length. Each takes the other elements of the
-# claim and a paper; it raises an error of the package or tells False for what is none.
+# Which function checks a claim, by its text and its length. Each takes what stands behind the text,
+# and a paper; it raises an error of the package or tells False for what is none.
 CHECKS = {
     ("told", 3): _told,
     ("not told", 3): _not_told,

@@ -24,11 +24,11 @@ def _told_number(word):
 
 def _told_row(words):
     """The row of FRACTIONS, one or more; None."""
-    figures = [part for word in words for part in word.removeprefix("-").split("/")]
-    row = tuple([fraction_of(word) for word in words])
-    if row == () or None in row or max([len(part) for part in figures]) > MOST_FIGURES:
+    numbers = [number for word in words for number in word.removeprefix("-").split("/")]
+    if words == [] or max([len(number) for number in numbers]) > MOST_FIGURES:
         return None
-    return row
+    row = tuple([fraction_of(word) for word in words])
+    return None if None in row else row
 
 
 def _told_word(factors, text):
