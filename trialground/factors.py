@@ -171,9 +171,9 @@ def _is_word(factors, value):
     return is_lot(effect, factors) and len(effect) > 0 and is_sign(sign)
 
 
-def _joined(product, word):
-    """The product with a word more."""
-    return (odd_of(product[0], word[0]), product[1] * word[1])
+def _joined(made, word):
+    """A product with a word more."""
+    return (odd_of(made[0], word[0]), made[1] * word[1])
 
 
 def _class_of(effect, odd_lots):
